@@ -1,0 +1,1 @@
+"""Clausekeep: formulas with a model or a refutation."""

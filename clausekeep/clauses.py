@@ -1,0 +1,30 @@
+"""Clauses under truths."""
+
+
+def opened(truths, clause):
+    """The literals of a clause that are not false, each once, in their order."""
+    found = {}
+    for literal in clause:
+        if truths.get(abs(literal)) != -literal:
+            found[literal] = True
+    return list(found)
+
+
+def has_both(clause):
+    """Whether a literal and its opposite are in a clause."""
+    seen = {}
+    for literal in clause:
+        if -literal in seen:
+            return True
+        seen[literal] = True
+    return False
+
+
+def satisfied(clauses, model):
+    """Whether a model makes all clauses true."""
+    return all([is_true(clause, model) for clause in clauses])
+
+
+def is_true(clause, model):
+    """Whether one of a clause's literals is among the true ones."""
+    return any([literal in model for literal in clause])
