@@ -64,20 +64,24 @@ class Written(unittest.TestCase):
 
 
 class Read(unittest.TestCase):
+    def assert_reads(self, text, variables, clauses):
+        # assertEqual would take minutes to show where two large formulas differ.
+        self.assertTrue(read(text) == (variables, clauses), repr(text))
+
     def test_sign_by_sign(self):
         for variables, clauses, text in PAIRS:
-            self.assertEqual(read(text), (variables, clauses))
+            self.assert_reads(text, variables, clauses)
 
     def test_read_back(self):
         for variables, clauses, text in PAIRS:
-            self.assertEqual(read(written(variables, clauses)), (variables, clauses))
+            self.assert_reads(written(variables, clauses), variables, clauses)
 
     def test_every_number_of_variables_and_of_clauses(self):
         for variables in range(13):
             literals = tuple(range(-variables, 0)) + tuple(range(variables, 0, -1))
             for count in range(61):
                 clauses = [literals[place % 3:] for place in range(count)]
-                self.assertEqual(read(written(variables, clauses)), (variables, clauses))
+                self.assert_reads(written(variables, clauses), variables, clauses)
 
     def test_kinds(self):
         answer = read("formula 2 2\n1 -2 1 0\n0\n")
@@ -98,7 +102,7 @@ class Read(unittest.TestCase):
 
     def test_a_long_clause(self):
         clause = (1, -2, 2) * 500
-        self.assertEqual(read(written(2, [clause])), (2, [clause]))
+        self.assert_reads(written(2, [clause]), 2, [clause])
 
 
 class Refused(unittest.TestCase):
@@ -144,7 +148,7 @@ class Refused(unittest.TestCase):
         self.assert_refused("formula 13 1\n13 0\n", 1)
 
     def test_the_bounds_themselves_are_taken(self):
-        self.assertEqual(read("formula 12 60\n" + "12 0\n" * 60), (12, [(12,)] * 60))
+        self.assertTrue(read("formula 12 60\n" + "12 0\n" * 60) == (12, [(12,)] * 60))
 
     def test_first_line_with_wrong_blanks(self):
         self.assert_first_line_refused((
