@@ -1,6 +1,16 @@
 """Clauses under truths."""
 
 
+def numbered(clauses):
+    """The table of a formula's clauses: each by its number, from 1 on."""
+    return dict(enumerate(clauses, start=1))
+
+
+def truths_of(literals):
+    """The truths in which literals are true: for each variable its true literal, in their order."""
+    return dict([(abs(literal), literal) for literal in literals])
+
+
 def opened(truths, clause):
     """The literals of a clause that are not false, each once, in their order."""
     found = {}

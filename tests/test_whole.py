@@ -2,6 +2,8 @@
 
 import ast
 import builtins
+import importlib
+import inspect
 import pathlib
 import unittest
 
@@ -15,6 +17,24 @@ OWN_NAMES = set("""
     ArithmeticError OverflowError RuntimeError NotImplementedError AttributeError StopIteration
 """.split())
 
+# The interface: each name and its arguments, by file.
+INTERFACE = {
+    "words": {"number_in": ["word"]},
+    "formulas": {"written": ["variables", "clauses"], "read": ["text"]},
+    "steps": {"shown": ["step"], "step_in": ["line"]},
+    "clauses": {"opened": ["truths", "clause"], "has_both": ["clause"], "satisfied": ["clauses", "model"]},
+    "following": {"follows": ["table", "clause", "hints"]},
+    "checking": {"Keeper": ["variables", "clauses"], "checked": ["variables", "clauses", "steps"]},
+    "searching": {"solved": ["variables", "clauses"], "all_models": ["variables", "clauses", "most"]},
+}
+
+# What LANGUAGE.md leaves out of the language.
+LEFT_OUT = (
+    ast.With, ast.Match, ast.Delete, ast.Global, ast.Nonlocal, ast.Assert, ast.Yield, ast.YieldFrom, ast.Await,
+    ast.AsyncFunctionDef, ast.AsyncFor, ast.AsyncWith, ast.SetComp, ast.DictComp, ast.GeneratorExp, ast.NamedExpr,
+    ast.Starred, ast.Div, ast.TryStar, ast.AnnAssign,
+)
+
 
 def trees():
     for path in FILES:
@@ -24,8 +44,8 @@ def trees():
 class Whole(unittest.TestCase):
     def test_there_are_files_and_all_are_python(self):
         names = [path.name for path in FILES]
-        for name in ("__init__.py", "errors.py", "words.py", "formulas.py", "clauses.py"):
-            self.assertIn(name, names)
+        for name in ("__init__", "errors", *INTERFACE):
+            self.assertIn(f"{name}.py", names)
         self.assertEqual([path.suffix for path in FILES], [".py"] * len(FILES))
 
     def test_only_own_files_are_drawn_from(self):
@@ -55,3 +75,24 @@ class Whole(unittest.TestCase):
             for node in ast.walk(tree):
                 if isinstance(node, ast.FunctionDef):
                     self.assertLessEqual(node.end_lineno - node.lineno + 1, 40, (name, node.name))
+
+    def test_only_what_the_language_has(self):
+        for name, tree in trees():
+            for node in ast.walk(tree):
+                self.assertNotIsInstance(node, LEFT_OUT, name)
+                if isinstance(node, (ast.For, ast.While)):
+                    self.assertEqual(node.orelse, [], name)
+                if isinstance(node, ast.ListComp):
+                    self.assertEqual(len(node.generators), 1, name)
+                    self.assertLessEqual(len(node.generators[0].ifs), 1, name)
+                if isinstance(node, ast.Assign):
+                    self.assertEqual(len(node.targets), 1, name)
+                    self.assertNotIsInstance(node.targets[0], (ast.Tuple, ast.List), name)
+
+    def test_the_interface(self):
+        for name, wanted in INTERFACE.items():
+            module = importlib.import_module(f"clausekeep.{name}")
+            for part, arguments in wanted.items():
+                self.assertEqual(list(inspect.signature(getattr(module, part)).parameters), arguments, part)
+        take = importlib.import_module("clausekeep.checking").Keeper.take
+        self.assertEqual(list(inspect.signature(take).parameters), ["self", "step"])
