@@ -38,3 +38,13 @@ def satisfied(clauses, model):
 def is_true(clause, model):
     """Whether one of a clause's literals is among the true ones."""
     return any([literal in model for literal in clause])
+
+
+def left_over(clauses, literal):
+    """What clauses still ask for where a literal is true."""
+    return [without(clause, -literal) for clause in clauses if literal not in clause]
+
+
+def without(clause, literal):
+    """A clause without one of the literals."""
+    return tuple([other for other in clause if other != literal])

@@ -1,6 +1,6 @@
 """Models and refutations, searched for."""
 
-from clausekeep.clauses import numbered, opened, truths_of
+from clausekeep.clauses import left_over, numbered, opened, truths_of
 
 
 def solved(variables, clauses):
@@ -79,13 +79,3 @@ def all_models(variables, clauses, most):
             waiting.append((truths + (variable,), left_over(left, variable)))
             waiting.append((truths + (-variable,), left_over(left, -variable)))
     return models
-
-
-def left_over(clauses, literal):
-    """What clauses still ask for where a literal is true."""
-    return [without(clause, -literal) for clause in clauses if literal not in clause]
-
-
-def without(clause, literal):
-    """A clause without one of the literals."""
-    return tuple([other for other in clause if other != literal])

@@ -57,3 +57,56 @@ def drawn_wide(seed, variables, count):
     chance = random.Random(seed)
     return [tuple(chance.choice((1, -1)) * variable for variable in chance.sample(range(1, variables + 1), 3))
             for number in range(count)]
+
+
+# Formulas without a model, up to the bounds and somewhat beyond.
+WITHOUT = {
+    "no variables": (0, [()]),
+    "the empty clause alone": (12, [()]),
+    "the empty clause last": (3, [(1, 2), (-3,), ()]),
+    "the empty clause twice": (1, [(), ()]),
+    "the empty clause first": (1, [(), (1,), (-1,)]),
+    "opposites": (1, [(1,), (-1,)]),
+    "literals twice": (1, [(1, 1), (-1, -1, -1)]),
+    "literals twice, opposites": (2, [(1, -1), (2, 2, 1), (-2, 1, -2), (2, -2, 2), (-1, -1)]),
+    "four": (2, [(1, 2), (-1, 2), (1, -2), (-1, -2)]),
+    "variables in no clause": (12, [(5, 9), (-5, 9), (5, -9), (-5, -9)]),
+    "a row": (12, [(1,)] + [(-variable, variable + 1) for variable in range(1, 12)] + [(-12,)]),
+    "a row backwards": (12, [(-12,)] + [(-variable, variable + 1) for variable in range(11, 0, -1)] + [(1,)]),
+    "two things in one place": places(2, 1),
+    "three things in two places": places(3, 2),
+    "four things in three places": places(4, 3),
+    "six things in two places": places(6, 2),
+    "five things in four places": places(5, 4),
+    "every sign of three": (3, every_sign((1, 2, 3))),
+    "every sign of five": (5, every_sign((1, 2, 3, 4, 5))),
+    "every sign of five, the last ones": (12, every_sign((8, 9, 10, 11, 12))),
+    "every sign of six": (12, every_sign((2, 4, 6, 8, 10, 12))),
+    "odd and even": (5, odd((1, 2, 3, 4, 5)) + even((5, 4, 3, 2, 1))),
+    "a ring of odd ones": (12, [clause for place in range(13) for clause in
+                                (odd if place == 12 else even)((1 + place % 12, 1 + (place + 1) % 12))]
+                           + even((1, 2))),
+    "rings of three": (12, [clause for place in range(12) for clause in
+                            odd((1 + place, 1 + (place + 1) % 12, 1 + (place + 5) % 12))]
+                       + [(1,), (-2, -3), (4, 6), (-7, 8, 9), (-10, 11), (-12, 5), (-4, -5), (-6,)]),
+}
+
+# Formulas with a model.
+WITH = {
+    "nothing at all": (0, []),
+    "no clauses": (12, []),
+    "one variable": (1, [(1,)]),
+    "one variable, false": (1, [(-1,)]),
+    "opposites in a clause": (2, [(1, -1), (2, -2, 1)]),
+    "literals twice": (2, [(1, 1), (-2, -2, -1)]),
+    "variables in no clause": (12, [(5, 9), (-5, 9), (5, -9)]),
+    "a row": (12, [(1,)] + [(-variable, variable + 1) for variable in range(1, 12)]),
+    "three things in three places": places(3, 3),
+    "three things in four places": places(3, 4),
+    "four things in four places": places(4, 4),
+    "every sign but one": (5, every_sign((1, 2, 3, 4, 5))[1:]),
+    "every sign but the last": (12, every_sign((12, 11, 10, 9, 8))[:-1]),
+    "odd": (6, odd((1, 2, 3, 4, 5, 6))),
+    "sixty of twelve": (12, every_sign(range(1, 13))[:60]),
+    "seventy of fourteen": (14, every_sign(range(14, 0, -1))[-70:]),
+}

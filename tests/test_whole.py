@@ -26,6 +26,11 @@ INTERFACE = {
     "following": {"follows": ["table", "clause", "hints"]},
     "checking": {"Keeper": ["variables", "clauses"], "checked": ["variables", "clauses", "steps"]},
     "searching": {"solved": ["variables", "clauses"], "all_models": ["variables", "clauses", "most"]},
+    "counting": {"counted": ["variables", "clauses"]},
+    "trimming": {"trimmed": ["variables", "clauses", "steps"], "core": ["variables", "clauses", "steps"]},
+    "reducing": {"tidy": ["clauses"], "when_true": ["clauses", "literal"], "reduced": ["clauses"],
+                 "lifted": ["variables", "literals", "model"], "implied": ["clauses", "clause", "variables"]},
+    "books": {"played": ["variables", "lines"]},
 }
 
 # What LANGUAGE.md leaves out of the language.
@@ -55,6 +60,16 @@ class Whole(unittest.TestCase):
                 if isinstance(node, ast.ImportFrom):
                     self.assertEqual(node.level, 0, name)
                     self.assertTrue(node.module.startswith("clausekeep."), (name, node.module))
+
+    def test_no_two_files_draw_from_one_another(self):
+        drawn_from = {}
+        for name, tree in trees():
+            modules = [node.module for node in ast.walk(tree) if isinstance(node, ast.ImportFrom)]
+            drawn_from[name] = {module.split(".")[1] + ".py" for module in modules}
+        while drawn_from:
+            free = [name for name, others in drawn_from.items() if not others & set(drawn_from)]
+            self.assertTrue(free, drawn_from)
+            drawn_from = {name: others for name, others in drawn_from.items() if name not in free}
 
     def test_only_harmless_names_of_pythons_own(self):
         strange = set(dir(builtins)) - OWN_NAMES
